@@ -1,0 +1,1 @@
+"""Tables that are asked in steps."""
