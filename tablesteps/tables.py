@@ -1,20 +1,43 @@
 """The calls, as they are handed lists of bytes and give back lists of numbers."""
 
+from tablesteps.asking import NoTable, StepNotRight, TooLong, ask, check_length
 from tablesteps.reader import TableFault, read_table
+from tablesteps.writer import write_columns
 
 ANSWERED = 0
 REFUSED = 9
 TOO_LONG = 1
 NO_TABLE = 2
+NOT_RIGHT = 3
 
-MOST_BYTES = 65536
+
+def answer_with(make_text, question, tables):
+    try:
+        text = make_text(question, tables)
+    except TooLong:
+        return [REFUSED, TOO_LONG]
+    except NoTable as fault:
+        return [REFUSED, NO_TABLE, fault.which, fault.line]
+    except StepNotRight as fault:
+        return [REFUSED, NOT_RIGHT, fault.step, fault.rule]
+    return [ANSWERED, len(text)] + text
+
+
+def columns_told(question, tables):
+    return write_columns(ask(question, tables).columns[-1])
 
 
 def read(text):
-    if len(text) > MOST_BYTES:
-        return [REFUSED, TOO_LONG]
     try:
+        check_length(text)
         table = read_table(text)
+    except TooLong:
+        return [REFUSED, TOO_LONG]
     except TableFault as fault:
         return [REFUSED, NO_TABLE, fault.line]
     return [ANSWERED, len(table.rows)]
+
+
+# n is how many tables there are, which their list tells by itself.
+def judge(n, question, tables):
+    return answer_with(columns_told, question, tables)

@@ -1,6 +1,7 @@
 """Texts as lists of bytes: the bytes that mean something, and how a text is cut."""
 
 LINE_END = 10
+BLANK = 32
 QUOTE = 34
 COMMA = 44
 MINUS = 45
@@ -45,6 +46,10 @@ def is_letter(byte):
     return LETTER_A <= byte and byte <= LETTER_Z
 
 
+def is_word_byte(byte):
+    return is_letter(byte) or is_digit(byte) or byte == UNDERLINE
+
+
 def word_sign(byte):
     if is_letter(byte):
         return LETTERS[byte - LETTER_A]
@@ -53,6 +58,10 @@ def word_sign(byte):
     if byte == UNDERLINE:
         return "_"
     raise LineNotRight()
+
+
+def bytes_of(word):
+    return [ord(sign) for sign in word]
 
 
 # Words are kept as Python's texts, so that they can be compared with written ones.

@@ -1,4 +1,4 @@
-"""The interface of read: its argument, what it gives back, and what it leaves alone."""
+"""The interface of the calls: their arguments, what they give back, and what they leave alone."""
 
 import builtins
 import contextlib
@@ -8,7 +8,7 @@ import sys
 import unittest
 from unittest import mock
 
-from tablesteps.tables import read
+from tablesteps.tables import judge, read
 from tests.helper import numbers
 
 TEXTS = (
@@ -16,6 +16,20 @@ TEXTS = (
     'a:whole,b:fraction,c:text,d:truth\n-1,-1/2,"x\\n\\\\\\"",true\n,,,\n',
     "a:fraction\n2/4\n", 'a:text\n"x\n', "a:whole\n" + "1\n" * 401, "a:whole\n" + "1" * 65000 + "\n", "1" * 65537,
 )
+TABLE = 'a:whole,b:fraction,c:text,d:truth\n1,1/2,"x",true\n2,-1/2,"y",false\n,,,\n1,1/2,"x",true\n'
+OTHER = 'k:whole,e:text\n1,"u"\n2,"v"\n1,"w"\n'
+LINES = (
+    "where a < 2", "keep c, a as x", "with n = (a else 5) * 2", "with n = if d then c ++ c else c", "join 1 on a = k take e",
+    "left join 1 on a = k take e, k", "group a, d: sum b as s, mean a as m, first c as f, rows as n", "group: least c as l, greatest b as g",
+    "order a down, b", "part 1 2", "distinct", "plus 0", "minus 0", "window d by a down: number as n, sum a as s, rank as r, before c as e",
+    "where", "where zz", "where a", "with a = 1", "with n = " + "(" * 37 + "a" + ")" * 37, "with n = " + "-" * 76 + "a",
+    "with n = " + "if d then " * 15 + "a" + " else a" * 15, "where " + "(" * 79, "where " + "not " * 78 + "d",
+    "with n = " + "9" * 400 + " * 10", "plus 0\n" * 30 + "distinct",
+)
+QUESTIONS = [("", (TABLE, OTHER)), ("distinct", (TABLE, OTHER)), ("x" * 65537, (TABLE,)), ("distinct\n", ()), ("distinct\n", (TABLE,) * 9)]
+QUESTIONS += [("distinct\n", (TABLE, "a:whole\n02\n")), ("distinct\n" * 41, (TABLE,))]
+QUESTIONS += [(line + "\n", (TABLE, OTHER)) for line in LINES]
+ASKING = (judge,)
 
 
 class Untouched(list):
@@ -28,14 +42,31 @@ class Untouched(list):
     __setitem__ = __delitem__ = __iadd__ = __imul__ = refuse
 
 
+def calls(kind=list):
+    """All calls with fresh lists: the function and its arguments."""
+    made = [(read, [kind(numbers(text))]) for text in TEXTS]
+    for function in ASKING:
+        for question, tables in QUESTIONS:
+            texts = kind([kind(numbers(table)) for table in tables])
+            made.append((function, [len(tables), kind(numbers(question)), texts]))
+    return made
+
+
+def answers(made):
+    return [function(*arguments) for function, arguments in made]
+
+
 class Interface(unittest.TestCase):
-    def test_the_argument(self):
+    def test_the_arguments(self):
         self.assertEqual(list(inspect.signature(read).parameters), ["text"])
         self.assertEqual(read(text=numbers("a:whole\n7\n")), [0, 1])
+        for function in ASKING:
+            self.assertEqual(list(inspect.signature(function).parameters), ["n", "question", "tables"])
+            given = function(n=1, question=[], tables=[numbers("a:whole\n")])
+            self.assertEqual(given, [0, 8] + numbers("a:whole\n"))
 
     def test_a_list_of_ints_is_given_back(self):
-        for text in TEXTS:
-            given = read(numbers(text))
+        for given in answers(calls()):
             self.assertIs(type(given), list)
             self.assertEqual([type(number) for number in given], [int] * len(given))
 
@@ -44,52 +75,64 @@ class Interface(unittest.TestCase):
         self.assertEqual(read(numbers("a:whole\n1\n2\n")), [0, 2])
         self.assertEqual(read(numbers("a:whole\n1\n02\n")), [9, 2, 2])
         self.assertEqual(read([97] * 65537), [9, 1])
+        for function in ASKING:
+            table = numbers("a:whole\n")
+            self.assertEqual(function(1, numbers("distinct\n"), [table]), [0, 8] + table)
+            self.assertEqual(function(1, numbers("keep zz\n"), [table]), [9, 3, 0, 2])
+            self.assertEqual(function(2, numbers("keep zz\n"), [table, [120]]), [9, 2, 1, 0])
+            self.assertEqual(function(0, numbers("keep zz\n"), []), [9, 1])
 
-    def test_the_list_is_the_same_afterwards(self):
-        for text in TEXTS:
-            handed = numbers(text)
-            read(handed)
-            self.assertEqual(handed, numbers(text))
+    def test_refused_or_a_text_of_so_many_bytes(self):
+        for function, arguments in calls():
+            given = function(*arguments)
+            if given[0] == 9:
+                self.assertIn((given[1], len(given)), ((1, 2), (2, 3 if function is read else 4), (3, 4), (6, 2)))
+            else:
+                self.assertEqual(given[0], 0)
+                self.assertEqual(len(given), 2 if function is read else given[1] + 2)
 
-    def test_the_list_is_not_changed_for_a_while(self):
-        for text in TEXTS:
-            self.assertEqual(read(Untouched(numbers(text))), read(numbers(text)))
+    def test_the_lists_are_the_same_afterwards(self):
+        made = calls()
+        answers(made)
+        self.assertEqual(made, calls())
+
+    def test_the_lists_are_not_changed_for_a_while(self):
+        self.assertEqual(answers(calls(Untouched)), answers(calls()))
 
     def test_a_second_call_answers_the_same(self):
-        for text in TEXTS:
-            handed = numbers(text)
-            first = read(handed)
-            self.assertEqual(read(handed), first)
+        made = calls()
+        first = answers(made)
+        self.assertEqual(answers(made), first)
+        self.assertEqual(answers(reversed(made)), first[::-1])
 
     def test_nothing_is_kept_between_calls(self):
-        alone = [read(numbers(text)) for text in TEXTS]
-        for one, told in zip(TEXTS, alone):
-            for other in TEXTS:
-                read(numbers(other)).append(5)
-                self.assertEqual(read(numbers(one)), told)
+        alone = answers(calls())
+        for (function, arguments), told in zip(calls(), alone):
+            for other, others in calls()[::3]:
+                other(*others).append(5)
+                self.assertEqual(function(*arguments), told)
 
     def test_nothing_is_printed_read_or_imported(self):
         def refuse(*parts, **named):
             raise AssertionError("something is read or imported")
 
         out, err = io.StringIO(), io.StringIO()
-        handed = [numbers(text) for text in TEXTS]
+        made = calls()
         loaded = set(sys.modules)
         with contextlib.redirect_stdout(out), contextlib.redirect_stderr(err), \
                 mock.patch.object(builtins, "open", refuse), mock.patch.object(builtins, "input", refuse), \
                 mock.patch.object(builtins, "__import__", refuse):
-            for text in handed:
-                read(text)
+            answers(made)
         self.assertEqual((out.getvalue(), err.getvalue()), ("", ""))
         self.assertEqual(set(sys.modules), loaded)
 
     def test_few_calls_within_one_another(self):
-        handed = [numbers(text) for text in TEXTS]
-        told = [read(text) for text in handed]
+        made = calls()
+        told = answers(made)
         deepest = sys.getrecursionlimit()
         sys.setrecursionlimit(len(inspect.stack()) + 30)
         try:
-            again = [read(text) for text in handed]
+            again = answers(made)
         finally:
             sys.setrecursionlimit(deepest)
         self.assertEqual(again, told)
