@@ -4,6 +4,7 @@ None stands for none, an int for a whole, a pair of ints in lowest terms for a
 fraction, a tuple of bytes for a text, True and False for truths.
 """
 
+from tablesteps.exact import greatest_divisor
 from tablesteps.texts import BACKSLASH, DIGIT_0, LETTER_N, LINE_END, MINUS, QUOTE, SLASH
 from tablesteps.texts import LineNotRight, cut_at, is_digit, word_of
 
@@ -35,14 +36,6 @@ def read_whole(row):
     if size == 0:
         raise LineNotRight()
     return -size
-
-
-def greatest_divisor(one, other):
-    while other != 0:
-        rest = one % other
-        one = other
-        other = rest
-    return one
 
 
 def read_fraction(row):

@@ -1,14 +1,17 @@
 """The calls, as they are handed lists of bytes and give back lists of numbers."""
 
 from tablesteps.asking import NoTable, StepNotRight, TooLong, ask, check_length
+from tablesteps.exact import TooLarge
 from tablesteps.reader import TableFault, read_table
-from tablesteps.writer import write_columns
+from tablesteps.working import work_out
+from tablesteps.writer import write_columns, write_table
 
 ANSWERED = 0
 REFUSED = 9
 TOO_LONG = 1
 NO_TABLE = 2
 NOT_RIGHT = 3
+TOO_LARGE = 6
 
 
 def answer_with(make_text, question, tables):
@@ -20,11 +23,17 @@ def answer_with(make_text, question, tables):
         return [REFUSED, NO_TABLE, fault.which, fault.line]
     except StepNotRight as fault:
         return [REFUSED, NOT_RIGHT, fault.step, fault.rule]
+    except TooLarge:
+        return [REFUSED, TOO_LARGE]
     return [ANSWERED, len(text)] + text
 
 
 def columns_told(question, tables):
     return write_columns(ask(question, tables).columns[-1])
+
+
+def table_told(question, tables):
+    return write_table(work_out(ask(question, tables)))
 
 
 def read(text):
@@ -41,3 +50,7 @@ def read(text):
 # n is how many tables there are, which their list tells by itself.
 def judge(n, question, tables):
     return answer_with(columns_told, question, tables)
+
+
+def run(n, question, tables):
+    return answer_with(table_told, question, tables)

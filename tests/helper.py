@@ -1,4 +1,4 @@
-"""What the tests share: texts as lists of bytes, a writer of tables, and a second program.
+"""What the tests share: texts as lists of bytes, a writer of tables, a second program, and draws.
 
 The writer and the second program are written from the document alone, in another way than the
 program and sharing nothing with it, so that a slip in one of them shows against the other:
@@ -8,10 +8,11 @@ numbers by Python's fractions, and rows by plain walks.
 
 import functools
 import math
+import random
 import re
 from fractions import Fraction
 
-from tablesteps.tables import judge, read
+from tablesteps.tables import judge, read, run
 
 WORDS = """and as before by distinct down else false first greatest group if join keep last
 least left length mean minus none not number on or order part plus rank rows sum take then
@@ -43,6 +44,17 @@ def judged(question, *tables):
     """What judge answers; the columns' line as a text, without its end, if it isn't refused."""
     given = judge(len(tables), numbers(question), [numbers(table) for table in tables])
     return told_text(given)[:-1] if given[0] == 0 else given
+
+
+def ran(question, *tables):
+    """What run answers; the table as a text if it isn't refused."""
+    given = run(len(tables), numbers(question), [numbers(table) for table in tables])
+    return told_text(given) if given[0] == 0 else given
+
+
+def rows_of(question, *tables):
+    """The rows of what run answers, as the lines of its text."""
+    return ran(question, *tables).split("\n")[1:-1]
 
 
 def told_text(given):
@@ -410,3 +422,413 @@ def second_asked(question, tables):
 def second_judge(question, *tables):
     asked = second_asked(question, tables)
     return asked if isinstance(asked, list) else ",".join(f"{name}:{sort}" for name, sort in asked[1][-1])
+
+
+def second_rows(table, columns):
+    """A right table's rows, with Python's fractions and texts."""
+    rows = []
+    for line in table.split("\n")[1:-1]:
+        # quotes are looked for before commas, so that those within texts cut nothing
+        cells = [found[0] for found in re.finditer(rf"(?<![^,])(?:{TEXT}|[^,\"]*)(?![^,])", line)]
+        rows.append([second_cell(cell, sort) for cell, (_, sort) in zip(cells, columns)])
+    return rows
+
+
+def second_cell(cell, sort):
+    if cell == "":
+        return None
+    if sort == "text":
+        return plain_text(cell)
+    return cell == "true" if sort == "truth" else int(cell) if sort == "whole" else Fraction(cell)
+
+
+def second_write(columns, rows):
+    shown = []
+    for row in rows:
+        cells = []
+        for cell, (_, sort) in zip(row, columns):
+            if cell is not None and sort == "fraction":
+                cell = (cell.numerator, cell.denominator)
+            cells.append(cell.encode() if isinstance(cell, str) else cell)
+        shown.append(cells)
+    return write(columns, shown)
+
+
+def within(value):
+    """The value, if it isn't too large."""
+    if isinstance(value, str) and len(value) > 1000:
+        raise TooLarge
+    if isinstance(value, (int, Fraction)) and max(abs(value.numerator), value.denominator) >= 10 ** 400:
+        raise TooLarge
+    return value
+
+
+def second_value(tree, row):
+    """The value of an expression in a row, which is a dict of cells."""
+    sign = tree[0]
+    if sign == "name":
+        return row[tree[1]]
+    if sign == "value":
+        return tree[2]
+    given = [second_value(part, row) for part in tree[1:]]
+    one, other = (given + [None])[:2]
+    if sign == "none":
+        return one is None
+    if sign in ("and", "or"):
+        decided = sign == "or"
+        return decided if decided in given else None if None in given else not decided
+    if sign == "if":
+        return given[1] if one else given[2]
+    if sign == "else":
+        return other if one is None else one
+    if None in given:
+        return None
+    if sign == "-" and len(given) == 1:
+        return -one
+    if sign == "/":
+        return within(Fraction(one) / Fraction(other)) if other != 0 else None
+    works = {"+": lambda: one + other, "-": lambda: one - other, "*": lambda: one * other, "++": lambda: one + other,
+             "length": lambda: len(one), "==": lambda: one == other, "<": lambda: one < other, "<=": lambda: one <= other,
+             "not": lambda: not one}
+    return within(works[sign]())
+
+
+def second_compare(keys, names):
+    """How rows are compared, for Python's sorted."""
+    def compare(one, other):
+        for name, *down in keys:
+            here, there = one[names.index(name)], other[names.index(name)]
+            if here != there:
+                before = here is None or there is not None and here < there
+                return -1 if before != bool(down) else 1
+        return 0
+    return compare
+
+
+def second_partitions(rows, places):
+    """The rows put together by their cells in the places, each with its number."""
+    partitions = []
+    for number, row in enumerate(rows):
+        key = [row[place] for place in places]
+        for other, members in partitions:
+            if other == key:
+                members.append(number)
+                break
+        else:
+            partitions.append((key, [number]))
+    return partitions
+
+
+def second_made(row, cells, sort):
+    what = row[0]
+    if what == "rows":
+        return len(cells)
+    if what in ("first", "last"):
+        return (cells or [None])[0 if what == "first" else -1]
+    there = [cell for cell in cells if cell is not None]
+    if what == "values":
+        return len(there)
+    if not there:
+        return None
+    if what == "mean":
+        return within(Fraction(sum(there), 1) / len(there))
+    return within({"sum": sum, "least": min, "greatest": max}[what](there))
+
+
+def second_group(step, columns, rows):
+    names = [name for name, _ in columns]
+    parts = second_partitions(rows, [names.index(name) for name in step[1]])
+    if not step[1]:
+        parts = [([], list(range(len(rows))))]
+    given = []
+    for key, members in parts:
+        made = []
+        for row in step[3]:
+            place = names.index(row[1]) if row[0] != "rows" else 0
+            made.append(second_made(row, [rows[number][place] for number in members], columns[place][1]))
+        given.append(key + made)
+    return given
+
+
+def second_told(row, place, own, members, rows, compare):
+    """What a window tells of the row at place own among its members, which are in order."""
+    if row[0] == "number":
+        return own + 1
+    if row[0] == "rank":
+        return 1 + sum(compare(rows[number], rows[members[own]]) < 0 for number in members)
+    cells = [rows[number][place] for number in members]
+    if row[0] == "before":
+        return None if own == 0 else cells[own - 1]
+    there = [cell for cell in cells[:own + 1] if cell is not None]
+    return within(sum(there)) if there else None
+
+
+def second_window(step, columns, rows):
+    names = [name for name, _ in columns]
+    compare = second_compare(step[2], names)
+    given = [list(row) for row in rows]
+    for _, members in second_partitions(rows, [names.index(name) for name in step[1]]):
+        members = sorted(members, key=functools.cmp_to_key(lambda one, other: compare(rows[one], rows[other])))
+        for own, number in enumerate(members):
+            for row in step[3]:
+                place = names.index(row[1]) if row[0] in ("sum", "before") else 0
+                given[number].append(second_told(row, place, own, members, rows, compare))
+    return given
+
+
+def second_join(step, columns, rows, other_columns, others):
+    names, there = [name for name, _ in columns], [name for name, _ in other_columns]
+    given = []
+    for row in rows:
+        fitting = [other for other in others if all(
+            row[names.index(pair[0])] is not None and row[names.index(pair[0])] == other[there.index(pair[2])] for pair in step[3])]
+        given += [row + [other[there.index(pick[0])] for pick in step[4]] for other in fitting]
+        if step[1] and not fitting:
+            given.append(row + [None] * len(step[4]))
+    return given
+
+
+def second_after(step, columns, rows, tables):
+    """The rows behind a step; tables are columns and rows."""
+    word = step[0]
+    names = [name for name, _ in columns]
+    if word == "where":
+        return [row for row in rows if second_value(step[1], dict(zip(names, row)))]
+    if word == "with":
+        return [row + [second_value(step[2], dict(zip(names, row)))] for row in rows]
+    if word == "keep":
+        return [[row[names.index(pick[0])] for pick in step[1]] for row in rows]
+    if word == "join":
+        return second_join(step, columns, rows, *tables[step[2]])
+    if word == "group":
+        return second_group(step, columns, rows)
+    if word == "window":
+        return second_window(step, columns, rows)
+    if word == "order":
+        return sorted(rows, key=functools.cmp_to_key(second_compare(step[1], names)))
+    if word == "part":
+        return rows[step[1]:][:step[2]]
+    if word == "distinct":
+        return [row for number, row in enumerate(rows) if row not in rows[:number]]
+    others = tables[step[1]][1]
+    return rows + others if word == "plus" else [row for row in rows if row not in others]
+
+
+def second_run(question, *tables):
+    asked = second_asked(question, tables)
+    if isinstance(asked, list):
+        return asked
+    steps, columns = asked
+    heads = [[tuple(part.split(":")) for part in table.split("\n")[0].split(",")] for table in tables]
+    read_tables = [(head, second_rows(table, head)) for head, table in zip(heads, tables)]
+    rows = read_tables[0][1]
+    try:
+        for number, step in enumerate(steps):
+            rows = second_after(step, columns[number], rows, read_tables)
+            if len(rows) > 400:
+                raise TooLarge
+    except TooLarge:
+        return [9, 6]
+    return second_write(columns[-1], rows)
+
+
+SORTS = ("whole", "fraction", "text", "truth")
+NAMES = tuple("abcdefgh")
+TEXTS = ("", "x", "xy", "y", "Z", '"', "\\", "\n", "x y", "~", "aaa")
+FRACTIONS = ((0, 1), (1, 1), (2, 1), (-2, 1), (1, 2), (-1, 2), (3, 2), (2, 3), (-7, 3), (5, 6))
+ODD_TOKENS = ("a", "zz", "where", "as", ",", ":", "=", "==", "<", "(", ")", "-", "+", "++", "1", "1/2", '"x"', "true", "else", "by",
+              "down", "none", "not", "take", "on", "9", "02", "?", "if", "then")
+
+
+LARGE = {
+    "whole": ["9" * 400, "1" + "0" * 399, "1" + "0" * 200, "9" * 200, "10", "0", "1"],
+    "fraction": ["9" * 400 + "/1", "1/" + "9" * 400, "1/1" + "0" * 399, "1" + "0" * 200 + "/3", "3/1" + "0" * 200, "1/2", "10/1"],
+    "text": ['"' + "x" * 1000 + '"', '"' + "y" * 500 + '"', '"' + "z" * 499 + '"', '"x"', '""'],
+    "truth": ["true", "false"],
+}
+
+
+class Draw:
+    """Draws that are the same for the same seed; large ones have values near the limits."""
+
+    def __init__(self, seed, large=False):
+        self.random = random.Random(seed)
+        self.large = large
+
+    def one(self, *choices):
+        return self.random.choice(choices)
+
+    def chance(self, percent):
+        return self.random.randrange(100) < percent
+
+    def few(self, draw, least, most):
+        return [draw() for _ in range(self.random.randint(least, most))]
+
+    def cell(self, sort):
+        if self.chance(20):
+            return None
+        if sort == "whole" and self.large:
+            return self.one(0, 1, 10 ** 400 - 1, 1 - 10 ** 400, 10 ** 399, -10 ** 200)
+        if sort == "whole":
+            return self.one(0, 1, 2, 3, -1, -2, 10, 7)
+        if sort == "fraction":
+            return self.one(*FRACTIONS)
+        return self.one(True, False) if sort == "truth" else tuple(self.one(*TEXTS).encode())
+
+    def columns(self):
+        names = self.random.sample(NAMES, self.random.randint(1, 5))
+        return [(name, self.one(*SORTS)) for name in names]
+
+    def rows(self, columns, most):
+        rows = self.few(lambda: [self.cell(sort) for _, sort in columns], self.one(0, 3, 4, 5), most)
+        # rows that are alike shall be there often
+        return [self.one(*rows) if self.chance(25) else row for row in rows]
+
+    def tables(self, most=7):
+        """Tables as columns and rows; some have the sorts of the first one."""
+        first = self.columns()
+        drawn = [first] + self.few(self.columns, 0, 2)
+        if self.chance(60):
+            names = self.random.sample(NAMES, len(first))
+            drawn.append([(name, sort) for name, (_, sort) in zip(names, first)])
+        return [(columns, self.rows(columns, most)) for columns in drawn]
+
+    def constant(self, sort):
+        if self.large:
+            return self.one(*LARGE[sort])
+        if sort == "whole":
+            return self.one("0", "1", "2", "3", "10")
+        if sort == "fraction":
+            return self.one("0/1", "1/2", "2/1", "3/2", "7/3")
+        if sort == "text":
+            return self.one('""', '"x"', '"xy"', '"\\n"', '"\\""', '"y"')
+        return self.one("true", "false")
+
+    def expression(self, sort, columns, depth):
+        names = [name for name, own in columns if own == sort]
+        if depth == 0 or self.chance(15):
+            return self.one(*names) if names and self.chance(30 if self.large else 75) else self.constant(sort)
+        text = self.compound(sort, columns, depth - 1)
+        return f"({text})" if self.chance(65) else text
+
+    def compound(self, sort, columns, depth):
+        def part(wanted):
+            return self.expression(wanted, columns, depth)
+
+        def number():
+            return part(self.one("whole", "fraction"))
+
+        def other():
+            return part(self.one(*SORTS))
+
+        kinds = [lambda: f"if {part('truth')} then {part(sort)} else {part(sort)}", lambda: f"({part(sort)} else {part(sort)})"]
+        if sort == "whole":
+            kinds += [lambda: f"{part('whole')} {self.one('+', '-', '*')} {part('whole')}"] * 3
+            kinds += [lambda: f"-{part('whole')}", lambda: f"length {part('text')}"]
+        elif sort == "fraction":
+            kinds += [lambda: f"{number()} / {number()}"] * 2 + [lambda: f"-{part('fraction')}"]
+            kinds += [lambda: f"{number()} {self.one('+', '-', '*')} {part('fraction')}",
+                      lambda: f"{part('fraction')} {self.one('+', '-', '*')} {number()}"]
+        elif sort == "text":
+            kinds += [lambda: f"{part('text')} ++ {part('text')}"] * 3
+        else:
+            kinds += [lambda: f"{part('truth')} {self.one('and', 'or')} {part('truth')}"] * 3 + [lambda: f"not {part('truth')}"]
+            kinds += [lambda: f"{number()} {self.one('==', '<', '<=')} {number()}"] * 2 + [lambda: f"none {other()}"]
+            kinds += [lambda: f"{part('text')} {self.one('==', '<', '<=')} {part('text')}", lambda: f"{part('truth')} == {part('truth')}"]
+        return self.one(*kinds)()
+
+    def name_here(self, columns):
+        return self.one(*columns)[0]
+
+    def new_name(self):
+        return self.one(*NAMES, "n", "m", "x", "y", "z", "k1", "k2", "k3", "s_1")
+
+    def picks(self, columns):
+        def pick():
+            name = self.name_here(columns)
+            return f"{name} as {self.new_name()}" if self.chance(50) else name
+        return ", ".join(self.few(pick, 1, 4))
+
+    def keys(self, columns):
+        return ", ".join(self.few(lambda: self.name_here(columns) + self.one("", " down"), 1, 3))
+
+    def names(self, columns, least):
+        count = min(len(columns), self.random.randint(least, 2))
+        return ", ".join(name for name, _ in self.random.sample(columns, count))
+
+    def made(self, columns):
+        what = self.one("rows", "values", "sum", "least", "greatest", "mean", "first", "last")
+        return (what if what == "rows" else f"{what} {self.name_here(columns)}") + f" as {self.new_name()}"
+
+    def told(self, columns):
+        what = self.one("number", "rank", "sum", "before")
+        return (what if what in ("number", "rank") else f"{what} {self.name_here(columns)}") + f" as {self.new_name()}"
+
+    def pair(self, columns, other):
+        name, sort = self.one(*columns)
+        alike = [there for there, own in other if own == sort]
+        return f"{name} = {self.one(*alike) if alike else self.name_here(other)}"
+
+    def line(self, columns, others):
+        """A step that is often right."""
+        word = self.one("where", "where", "keep", "with", "with", "join", "left join", "group", "group", "order", "part", "distinct", "plus",
+                        "minus", "window", "window")
+        number = self.random.randrange(len(others))
+        if word == "where":
+            return f"where {self.expression('truth', columns, 3)}"
+        if word == "with":
+            return f"with {self.new_name()} = {self.expression(self.one(*SORTS), columns, 3)}"
+        if word == "keep":
+            return f"keep {self.picks(columns)}"
+        if word in ("join", "left join"):
+            pairs = ", ".join(self.few(lambda: self.pair(columns, others[number]), 1, 2))
+            return f"{word} {number} on {pairs}" + (f" take {self.picks(others[number])}" if self.chance(75) else "")
+        if word == "order":
+            return f"order {self.keys(columns)}"
+        if word == "part":
+            return f"part {self.random.randrange(4)} {self.random.randrange(8)}"
+        if word == "distinct":
+            return word
+        if word in ("plus", "minus"):
+            return f"{word} {number}"
+        if word == "group":
+            made = ", ".join(self.few(lambda: self.made(columns), 1, 3))
+            return f"group {self.names(columns, 1)}" if self.chance(15) else f"group {self.names(columns, 0)}: {made}"
+        by = f" by {self.keys(columns)}" if self.chance(75) else ""
+        told = ", ".join(self.few(lambda: self.told(columns), 1, 3))
+        return f"window {self.names(columns, 0)}{by}: {told}"
+
+    def right_lines(self, others, most):
+        """Lines that are right, and the columns behind them."""
+        lines, columns = [], others[0]
+        for _ in range(self.random.randint(0, most)):
+            for _ in range(8):
+                line = self.line(columns, others)
+                try:
+                    columns = second_columns(second_step(line), columns, others)
+                except Wrong:
+                    continue
+                lines.append(line)
+                break
+        return lines, columns
+
+    def spoilt(self, line):
+        tokens = line.replace("(", "( ").replace(")", " )").replace(",", " ,").replace(":", " :").split(" ")
+        place = self.random.randrange(len(tokens))
+        kind = self.one("out", "twice", "other", "more", "swap")
+        if kind == "out":
+            del tokens[place]
+        elif kind == "twice":
+            tokens.insert(place, tokens[place])
+        elif kind == "other":
+            tokens[place] = self.one(*ODD_TOKENS)
+        elif kind == "more":
+            tokens.insert(place, self.one(*ODD_TOKENS))
+        else:
+            other = self.random.randrange(len(tokens))
+            tokens[place], tokens[other] = tokens[other], tokens[place]
+        return " ".join(tokens)
+
+
+def question_of(lines):
+    return "".join(line + "\n" for line in lines)

@@ -120,6 +120,25 @@ class Syntax(unittest.TestCase):
             for sign, right in zip(node.ops, node.comparators):
                 if isinstance(sign, (ast.Is, ast.IsNot)):
                     self.assertIsInstance(right, ast.Constant, path)
+                    self.assertIn(right.value, (None, True, False), path)
+
+    def test_sets_and_walks_are_used_on_the_spot(self):
+        for path, tree in trees():
+            for node in ast.walk(tree):
+                if isinstance(node, (ast.Assign, ast.Return)) and isinstance(node.value, ast.Call):
+                    called = node.value.func
+                    name = getattr(called, "id", None) or getattr(called, "attr", None)
+                    self.assertNotIn(name, ("set", "frozenset", "zip", "enumerate", "reversed", "range", "items", "keys", "values"), path)
+
+    def test_lists_and_dicts_of_a_files_top_are_only_read(self):
+        for path, tree in trees():
+            kept = {node.targets[0].id for node in tree.body
+                    if isinstance(node, ast.Assign) and isinstance(node.value, (ast.List, ast.Dict))}
+            for node in ast.walk(tree):
+                for part in ast.iter_child_nodes(node):
+                    if isinstance(part, ast.Name) and part.id in kept and isinstance(part.ctx, ast.Load):
+                        self.assertIsInstance(node, (ast.Subscript, ast.Attribute, ast.Compare), (path, part.id))
+                        self.assertIn(getattr(node, "attr", "get"), ("get", "items", "keys", "values"), path)
 
 
 class Names(unittest.TestCase):
@@ -131,6 +150,16 @@ class Names(unittest.TestCase):
             bound = {part.name for part in source.body if isinstance(part, (ast.FunctionDef, ast.ClassDef))}
             bound |= {part.targets[0].id for part in source.body if isinstance(part, ast.Assign)}
             self.assertLessEqual({name.name for name in node.names}, bound, path)
+
+    def test_no_two_files_draw_from_one_another(self):
+        drawn = {path.stem: set() for path in FILES}
+        for path, node in found(ast.ImportFrom):
+            drawn[path.stem].add(node.module.split(".")[1])
+        while drawn:
+            free = [name for name, others in drawn.items() if not others & set(drawn)]
+            self.assertTrue(free, drawn)
+            for name in free:
+                del drawn[name]
 
     def test_tops_of_files(self):
         allowed = (ast.ImportFrom, ast.FunctionDef, ast.ClassDef, ast.Assign)

@@ -8,7 +8,7 @@ import sys
 import unittest
 from unittest import mock
 
-from tablesteps.tables import judge, read
+from tablesteps.tables import judge, read, run
 from tests.helper import numbers
 
 TEXTS = (
@@ -29,7 +29,7 @@ LINES = (
 QUESTIONS = [("", (TABLE, OTHER)), ("distinct", (TABLE, OTHER)), ("x" * 65537, (TABLE,)), ("distinct\n", ()), ("distinct\n", (TABLE,) * 9)]
 QUESTIONS += [("distinct\n", (TABLE, "a:whole\n02\n")), ("distinct\n" * 41, (TABLE,))]
 QUESTIONS += [(line + "\n", (TABLE, OTHER)) for line in LINES]
-ASKING = (judge,)
+ASKING = (judge, run)
 
 
 class Untouched(list):

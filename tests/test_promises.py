@@ -1,0 +1,144 @@
+"""The promises over drawn tables: what is written is read, judge's columns are run's, groups, order and windows."""
+
+import unittest
+from fractions import Fraction
+
+from tablesteps.tables import read
+from tests.helper import Draw, judged, numbers, question_of, ran, rows_of, write
+
+ROUNDS = 400
+
+
+def drawn_table(seed, most=12):
+    draw = Draw(seed)
+    columns = draw.columns()
+    return draw, columns, draw.rows(columns, most)
+
+
+class Written(unittest.TestCase):
+    def test_what_run_writes_is_a_table(self):
+        for seed in range(ROUNDS):
+            draw = Draw(seed)
+            tables = draw.tables(9)
+            lines, _ = draw.right_lines([columns for columns, _ in tables], 5)
+            texts = [write(*table) for table in tables]
+            told = ran(question_of(lines), *texts)
+            self.assertEqual(read(numbers(told)), [0, told.count("\n") - 1], (seed, lines))
+            self.assertEqual(ran("", told), told)
+            self.assertEqual(judged(question_of(lines), *texts), told.split("\n")[0])
+
+    def test_a_table_is_written_as_it_was_read(self):
+        for seed in range(ROUNDS):
+            _, columns, rows = drawn_table(seed)
+            text = write(columns, rows)
+            self.assertEqual(ran("", text), text)
+            self.assertEqual(ran("where true\n", text), text)
+
+    def test_all_bytes_of_texts(self):
+        text = write([("a", "text")], [[(byte,)] for byte in [10, *range(32, 127)]] + [[tuple(range(32, 127))], [()], [None]])
+        self.assertEqual(ran("where true\n", text), text)
+        self.assertEqual(rows_of('with b = a ++ ""\nkeep b\n', text), text.split("\n")[1:-1])
+
+    def test_steps_one_by_one(self):
+        """A question of several steps is what the steps say of one another's answers."""
+        for seed in range(ROUNDS):
+            draw = Draw(seed)
+            tables = draw.tables(9)
+            lines, _ = draw.right_lines([columns for columns, _ in tables], 5)
+            lines = [line for line in lines if "join 0" not in line and line not in ("plus 0", "minus 0")]
+            texts = [write(*table) for table in tables]
+            at_once = ran(question_of(lines), *texts)
+            if isinstance(at_once, list):
+                continue
+            for line in lines:
+                texts[0] = ran(line + "\n", *texts)
+            self.assertEqual(texts[0], at_once, (seed, lines))
+
+
+class Groups(unittest.TestCase):
+    def test_groups_are_all_rows_once(self):
+        for seed in range(ROUNDS):
+            draw, columns, rows = drawn_table(seed)
+            names = draw.names(columns, 1)
+            text = write(columns, rows)
+            counts = [int(row.rsplit(",", 1)[1]) for row in rows_of(f"group {names}: rows as counted\n", text)]
+            self.assertEqual(sum(counts), len(rows))
+            self.assertTrue(all(counts))
+            self.assertEqual(rows_of(f"group {names}\n", text), rows_of(f"keep {names}\ndistinct\n", text))
+            self.assertEqual(rows_of("group: rows as counted\n", text), [str(len(rows))])
+
+    def test_sums_over_groups_add_up_to_the_wholes(self):
+        for seed in range(ROUNDS):
+            draw, columns, rows = drawn_table(seed)
+            names = draw.names(columns, 1)
+            text = write(columns, rows)
+            for name, sort in columns:
+                if sort in ("whole", "fraction"):
+                    whole = rows_of(f"group: sum {name} as total, values {name} as counted\n", text)
+                    parts = f"group {names}: sum {name} as part_sum, values {name} as part_count\n"
+                    told = rows_of(parts + "group: sum part_sum as total, sum part_count as counted\n", text)
+                    self.assertEqual(told, whole if rows else [","])
+                    mean, = rows_of(f"group: mean {name} as average\n", text)
+                    there = [Fraction(*row[place]) if sort == "fraction" else Fraction(row[place])
+                             for row in rows for place in [columns.index((name, sort))] if row[place] is not None]
+                    self.assertEqual(Fraction(mean) if mean else None, sum(there) / len(there) if there else None)
+
+
+class Orders(unittest.TestCase):
+    def test_order_changes_nothing_but_order_and_is_steady(self):
+        for seed in range(ROUNDS):
+            draw, columns, rows = drawn_table(seed)
+            keys = draw.keys(columns)
+            text = write(columns, rows)
+            told = rows_of(f"order {keys}\n", text)
+            self.assertEqual(sorted(told), sorted(text.split("\n")[1:-1]))
+            self.assertEqual(rows_of(f"order {keys}\norder {keys}\n", text), told)
+            numbered = rows_of(f"window: number as stood\norder {keys}\nwindow by {keys}: rank as ranked\n", text)
+            last = (0, 0)
+            for row in numbered:
+                stood, ranked = map(int, row.rsplit(",", 2)[1:])
+                self.assertLess(last, (ranked, stood))
+                last = (ranked, stood)
+
+    def test_the_ends_of_an_order_are_least_and_greatest(self):
+        for seed in range(ROUNDS):
+            _, columns, rows = drawn_table(seed)
+            text = write(columns, rows)
+            for name, sort in columns:
+                if sort != "truth":
+                    ordered = rows_of(f"keep {name}\nwhere not none {name}\norder {name}\n", text)
+                    told, = rows_of(f"group: least {name} as low, greatest {name} as high\n", text)
+                    self.assertEqual(told, f"{ordered[0]},{ordered[-1]}" if ordered else ",")
+
+    def test_windows_take_away_nothing(self):
+        for seed in range(ROUNDS):
+            draw, columns, rows = drawn_table(seed)
+            by = f" by {draw.keys(columns)}" if draw.chance(70) else ""
+            told = ", ".join(f"{draw.one('number', 'rank', 'before ' + columns[0][0])} as told{k}" for k in range(draw.one(1, 2, 3)))
+            text = write(columns, rows)
+            names = ", ".join(name for name, _ in columns)
+            self.assertEqual(ran(f"window {draw.names(columns, 0)}{by}: {told}\nkeep {names}\n", text), text)
+
+    def test_numbers_in_a_window_are_all_from_1(self):
+        for seed in range(ROUNDS):
+            draw, columns, rows = drawn_table(seed)
+            names, keys = draw.names(columns, 1), draw.keys(columns)
+            text = write(columns, rows)
+            told = rows_of(f"window {names} by {keys}: number as told\norder told\ngroup {names}: rows as counted, last told as most\n", text)
+            for row in told:
+                counted, most = row.rsplit(",", 2)[1:]
+                self.assertEqual(counted, most)
+
+    def test_the_last_sum_of_a_window_is_the_groups(self):
+        for seed in range(ROUNDS):
+            draw, columns, rows = drawn_table(seed)
+            text = write(columns, rows)
+            for name, sort in columns:
+                if sort in ("whole", "fraction"):
+                    keys, names = draw.keys(columns), draw.names(columns, 1)
+                    told = rows_of(f"order {keys}\nwindow {names} by {keys}: sum {name} as so_far\ngroup {names}: last so_far as total\n", text)
+                    self.assertEqual(told, rows_of(f"order {keys}\ngroup {names}: sum {name} as total\n", text))
+
+
+if __name__ == "__main__":
+    unittest.main()
