@@ -177,6 +177,12 @@ class If(unittest.TestCase):
                 "if d then (if d then a else a", "(if d then a else", "if d if d then a else a"):
             self.assertEqual(value(expression), NOT_A_STEP, expression)
 
+    def test_only_if_begins_one(self):
+        for token in ("+", "*", "/", "++", "==", "<", "=", ",", ":", ")", "then", "else", "and", "or", "as", "where", "", "not", "none", "-", "("):
+            self.assertEqual(value(f"{token} d then a else a"), NOT_A_STEP, token)
+            self.assertEqual(value(f"({token} d then a else a)"), NOT_A_STEP, token)
+            self.assertEqual(value(f"if {token} d then a else a then a else a"), NOT_A_STEP, token)
+
 
 class Else(unittest.TestCase):
     def test_only_in_parentheses_and_once(self):
