@@ -1,7 +1,9 @@
 """The calls, as they are handed lists of bytes and give back lists of numbers."""
 
 from tablesteps.asking import NoTable, StepNotRight, TooLong, ask, check_length
+from tablesteps.bettering import better_steps
 from tablesteps.exact import TooLarge
+from tablesteps.lines import write_question
 from tablesteps.reader import TableFault, read_table
 from tablesteps.working import work_out
 from tablesteps.writer import write_columns, write_table
@@ -36,6 +38,10 @@ def table_told(question, tables):
     return write_table(work_out(ask(question, tables)))
 
 
+def question_told(question, tables):
+    return write_question(better_steps(ask(question, tables).steps))
+
+
 def read(text):
     try:
         check_length(text)
@@ -54,3 +60,7 @@ def judge(n, question, tables):
 
 def run(n, question, tables):
     return answer_with(table_told, question, tables)
+
+
+def better(n, question, tables):
+    return answer_with(question_told, question, tables)

@@ -3,7 +3,7 @@
 The writer and the second program are written from the document alone, in another way than the
 program and sharing nothing with it, so that a slip in one of them shows against the other:
 tables by patterns, steps by patterns over their tokens, expressions by calls within calls,
-numbers by Python's fractions, and rows by plain walks.
+numbers by Python's fractions, rows by plain walks, and better questions by all rules at all places.
 """
 
 import functools
@@ -12,7 +12,7 @@ import random
 import re
 from fractions import Fraction
 
-from tablesteps.tables import judge, read, run
+from tablesteps.tables import better, judge, read, run
 
 WORDS = """and as before by distinct down else false first greatest group if join keep last
 least left length mean minus none not number on or order part plus rank rows sum take then
@@ -49,6 +49,12 @@ def judged(question, *tables):
 def ran(question, *tables):
     """What run answers; the table as a text if it isn't refused."""
     given = run(len(tables), numbers(question), [numbers(table) for table in tables])
+    return told_text(given) if given[0] == 0 else given
+
+
+def bettered(question, *tables):
+    """What better answers; the question as a text if it isn't refused."""
+    given = better(len(tables), numbers(question), [numbers(table) for table in tables])
     return told_text(given) if given[0] == 0 else given
 
 
@@ -632,6 +638,140 @@ def second_run(question, *tables):
     return second_write(columns[-1], rows)
 
 
+FORMS = "expr either both negated test sum product signed first".split()
+# each operation's own form, and the forms that stand at its places
+PLACES = {"if": "expr expr expr expr", "or": "either either both", "and": "both both negated", "not": "negated negated",
+          "before": "signed signed", "length": "signed signed", "none": "signed signed", "else": "first expr expr"}
+PLACES.update(dict.fromkeys(("==", "<", "<="), "test sum sum"))
+PLACES.update(dict.fromkeys(("+", "-", "++"), "sum sum product"))
+PLACES.update(dict.fromkeys(("*", "/"), "product product signed"))
+MINUS_BEFORE = "- before"
+
+
+def second_literal(sort, value):
+    if sort == "fraction":
+        value = (value.numerator, value.denominator)
+    return write_cell(value.encode() if sort == "text" else value, sort)
+
+
+def second_words(tree, place="expr"):
+    """The tokens that an expression is written with at a place."""
+    if tree[0] == "name":
+        return [tree[1]]
+    if tree[0] == "value":
+        return [second_literal(*tree[1:])]
+    sign = "before" if tree[0] == "-" and len(tree) == 2 else tree[0]
+    own, *places = PLACES[sign].split()
+    parts = [second_words(part, at) for part, at in zip(tree[1:], places)]
+    if sign == "if":
+        words = ["if", *parts[0], "then", *parts[1], "else", *parts[2]]
+    elif sign == "else":
+        words = ["(", *parts[0], "else", *parts[1], ")"]
+    elif len(parts) == 1:
+        words = [MINUS_BEFORE if sign == "before" else sign, *parts[0]]
+    else:
+        words = [*parts[0], sign, *parts[1]]
+    return ["(", *words, ")"] if FORMS.index(own) < FORMS.index(place) else words
+
+
+def comma_words(rows):
+    return [word for row in rows for word in [",", *row]][1:]
+
+
+def pick_words(rows):
+    return comma_words([row if row[0] != row[-1] else row[:1] for row in rows])
+
+
+def step_words(step):
+    """The tokens that a step is written with."""
+    word = step[0]
+    if word == "where":
+        return ["where", *second_words(step[1])]
+    if word == "with":
+        return ["with", step[1], "=", *second_words(step[2])]
+    if word == "keep":
+        return ["keep", *pick_words(step[1])]
+    if word == "order":
+        return ["order", *comma_words(step[1])]
+    if word == "join":
+        taken = ["take", *pick_words(step[4])] if step[4] else []
+        return (["left"] if step[1] else []) + ["join", str(step[2]), "on", *comma_words(step[3]), *taken]
+    if word in ("group", "window"):
+        by = ["by", *comma_words(step[2])] if step[2] else []
+        made = [":", *comma_words(step[3])] if step[3] else []
+        return [word, *comma_words([[name] for name in step[1]]), *by, *made]
+    return [word, *map(str, step[1:])]
+
+
+def second_line(step):
+    words = step_words(step)
+    line = words[0]
+    for before, word in zip(words, words[1:]):
+        blank = before not in ("(", MINUS_BEFORE) and word not in (",", ":", ")")
+        line += " " * blank + ("-" if word == MINUS_BEFORE else word)
+    return line
+
+
+def signs_in_tree(tree):
+    return set() if tree[0] in ("name", "value") else {tree[0]}.union(*map(signs_in_tree, tree[1:]))
+
+
+def second_sure(tree):
+    return not signs_in_tree(tree) & {"+", "-", "*", "/", "++"}
+
+
+def renamed_tree(tree, names):
+    if tree[0] == "name":
+        return ("name", names[tree[1]])
+    return tree if tree[0] == "value" else (tree[0], *[renamed_tree(part, names) for part in tree[1:]])
+
+
+def second_rule(first, second):
+    """The rules that fit two steps, by their numbers: what stands in the steps' place."""
+    words, fitting = (first[0], second[0]), {}
+    if second[0] == "where" and second_sure(second[1]):
+        names = names_in_tree(second[1])
+        if first[0] == "where" and second_sure(first[1]):
+            fitting[1] = [("where", ("and", first[1], second[1]))]
+        if first[0] in ("order", "distinct"):
+            fitting[2 if first[0] == "order" else 3] = [second, first]
+        if first[0] == "with" and first[1] not in names and second_sure(first[2]):
+            fitting[4] = [second, first]
+        if first[0] == "keep":
+            fitting[5] = [("where", renamed_tree(second[1], {new_name(row): row[0] for row in first[1]})), first]
+        if first[0] == "join" and not {new_name(row) for row in first[4]} & set(names):
+            fitting[6] = [second, first]
+    if words == ("order", "order"):
+        fitting[7] = [("order", second[1] + [row for row in first[1] if row[0] not in [other[0] for other in second[1]]])]
+    if words == ("keep", "keep"):
+        olds = {new_name(row): row[0] for row in first[1]}
+        fitting[8] = [("keep", [[olds[row[0]], "as", new_name(row)] for row in second[1]])]
+    if words == ("distinct", "distinct"):
+        fitting[9] = [second]
+    if words == ("part", "part") and first[1] + second[1] <= 9999:
+        fitting[10] = [("part", first[1] + second[1], 0 if second[1] > first[2] else min(second[2], first[2] - second[1]))]
+    return {number: steps for number, steps in fitting.items() if number not in (1, 7, 8) or len(step_words(steps[0])) <= 80}
+
+
+def second_fits(steps):
+    """All rules that fit, at all their places: triples of the rule, the place and what stands there then."""
+    return [(rule, place, made) for place in range(len(steps) - 1)
+            for rule, made in second_rule(steps[place], steps[place + 1]).items()]
+
+
+def second_better(question, *tables):
+    asked = second_asked(question, tables)
+    if isinstance(asked, list):
+        return asked
+    steps = asked[0]
+    fits = second_fits(steps)
+    while fits:
+        _, place, made = min(fits, key=lambda fit: fit[:2])
+        steps = steps[:place] + made + steps[place + 2:]
+        fits = second_fits(steps)
+    return question_of(second_line(step) for step in steps)
+
+
 SORTS = ("whole", "fraction", "text", "truth")
 NAMES = tuple("abcdefgh")
 TEXTS = ("", "x", "xy", "y", "Z", '"', "\\", "\n", "x y", "~", "aaa")
@@ -648,12 +788,24 @@ LARGE = {
 }
 
 
-class Draw:
-    """Draws that are the same for the same seed; large ones have values near the limits."""
+STEP_WORDS = ("where", "where", "keep", "with", "with", "join", "left join", "group", "group", "order", "part", "distinct", "plus",
+              "minus", "window", "window")
+# the steps that the rules of better questions speak of come more often
+BETTER_WORDS = ("where",) * 8 + ("keep", "order", "distinct", "part", "with") * 2 + ("join", "left join", "group", "window", "plus")
 
-    def __init__(self, seed, large=False):
+
+class Draw:
+    """Draws that are the same for the same seed; large ones have values near the limits.
+
+    So many of a hundred expressions as sure tells are without + - * / ++ and - before.
+    """
+
+    def __init__(self, seed, large=False, sure=0, words=STEP_WORDS):
         self.random = random.Random(seed)
         self.large = large
+        self.sure = sure
+        self.words = words
+        self.unsure = True
 
     def one(self, *choices):
         return self.random.choice(choices)
@@ -722,7 +874,9 @@ class Draw:
             return part(self.one(*SORTS))
 
         kinds = [lambda: f"if {part('truth')} then {part(sort)} else {part(sort)}", lambda: f"({part(sort)} else {part(sort)})"]
-        if sort == "whole":
+        if sort != "truth" and not self.unsure:
+            kinds += [lambda: f"length {part('text')}"] * 3 if sort == "whole" else []
+        elif sort == "whole":
             kinds += [lambda: f"{part('whole')} {self.one('+', '-', '*')} {part('whole')}"] * 3
             kinds += [lambda: f"-{part('whole')}", lambda: f"length {part('text')}"]
         elif sort == "fraction":
@@ -771,8 +925,8 @@ class Draw:
 
     def line(self, columns, others):
         """A step that is often right."""
-        word = self.one("where", "where", "keep", "with", "with", "join", "left join", "group", "group", "order", "part", "distinct", "plus",
-                        "minus", "window", "window")
+        word = self.one(*self.words)
+        self.unsure = not (self.sure and self.chance(self.sure))
         number = self.random.randrange(len(others))
         if word == "where":
             return f"where {self.expression('truth', columns, 3)}"

@@ -4,7 +4,7 @@ import unittest
 from fractions import Fraction
 
 from tablesteps.tables import read
-from tests.helper import Draw, judged, numbers, question_of, ran, rows_of, write
+from tests.helper import BETTER_WORDS, Draw, bettered, judged, numbers, question_of, ran, rows_of, second_fits, second_step, write
 
 ROUNDS = 400
 
@@ -53,6 +53,56 @@ class Written(unittest.TestCase):
             for line in lines:
                 texts[0] = ran(line + "\n", *texts)
             self.assertEqual(texts[0], at_once, (seed, lines))
+
+
+def drawn_questions(rounds, large=False):
+    """Questions that better ones can often be made of, each with its tables."""
+    for seed in range(rounds):
+        draw = Draw(seed, large=large, sure=40 if large else 75, words=BETTER_WORDS)
+        tables = draw.tables(9)
+        lines, _ = draw.right_lines([columns for columns, _ in tables], 9)
+        yield question_of(lines), [write(*table) for table in tables]
+
+
+class Better(unittest.TestCase):
+    def test_a_better_question_is_right_and_has_the_same_columns(self):
+        for question, texts in drawn_questions(ROUNDS * 2):
+            told = bettered(question, *texts)
+            columns = judged(question, *texts)
+            self.assertIsInstance(columns, str)
+            self.assertEqual(judged(told, *texts), columns, question)
+
+    def test_no_rule_fits_a_better_question(self):
+        for question, texts in drawn_questions(ROUNDS * 2):
+            told = bettered(question, *texts)
+            self.assertEqual(second_fits([second_step(line) for line in told.split("\n")[:-1]]), [], question)
+            self.assertEqual(bettered(told, *texts), told, question)
+
+    def test_a_better_question_tells_the_same(self):
+        changed = 0
+        for question, texts in drawn_questions(ROUNDS * 3):
+            answered = ran(question, *texts)
+            told = bettered(question, *texts)
+            if isinstance(answered, str):
+                changed += told.count("\n") < question.count("\n")
+                self.assertEqual(ran(told, *texts), answered, (question, texts))
+        self.assertGreater(changed, ROUNDS)
+
+    def test_a_better_question_tells_the_same_near_the_limits(self):
+        refused = 0
+        for question, texts in drawn_questions(ROUNDS, large=True):
+            answered = ran(question, *texts)
+            if isinstance(answered, str):
+                self.assertEqual(ran(bettered(question, *texts), *texts), answered, (question, texts))
+            else:
+                refused += 1
+        self.assertTrue(ROUNDS // 20 < refused < ROUNDS // 2, refused)
+
+    def test_a_better_question_may_tell_what_the_first_one_is_too_large_for(self):
+        table = "a:whole,d:truth\n" + "1,true\n" * 20 + "2,false\n" * 20
+        question = "join 0 on a = a\nwhere a == 3\n"
+        self.assertEqual(ran(question, table), [9, 6])
+        self.assertEqual(ran(bettered(question, table), table), "a:whole,d:truth\n")
 
 
 class Groups(unittest.TestCase):
