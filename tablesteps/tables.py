@@ -1,7 +1,8 @@
 """The calls, as they are handed lists of bytes and give back lists of numbers."""
 
-from tablesteps.asking import NoTable, StepNotRight, TooLong, ask, check_length
+from tablesteps.asking import NoTable, StepNotRight, TooLong, ask, check_length, read_tables
 from tablesteps.bettering import better_steps
+from tablesteps.comparing import are_same
 from tablesteps.exact import TooLarge
 from tablesteps.lines import write_question
 from tablesteps.reader import TableFault, read_table
@@ -64,3 +65,15 @@ def run(n, question, tables):
 
 def better(n, question, tables):
     return answer_with(question_told, question, tables)
+
+
+def same(in_order, table, other):
+    try:
+        check_length(table)
+        check_length(other)
+        both = read_tables([table, other])
+    except TooLong:
+        return [REFUSED, TOO_LONG]
+    except NoTable as fault:
+        return [REFUSED, NO_TABLE, fault.which, fault.line]
+    return [ANSWERED, 1 if are_same(both[0], both[1], in_order == 1) else 0]

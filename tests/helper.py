@@ -12,7 +12,7 @@ import random
 import re
 from fractions import Fraction
 
-from tablesteps.tables import better, judge, read, run
+from tablesteps.tables import better, judge, read, run, same
 
 WORDS = """and as before by distinct down else false first greatest group if join keep last
 least left length mean minus none not number on or order part plus rank rows sum take then
@@ -56,6 +56,11 @@ def bettered(question, *tables):
     """What better answers; the question as a text if it isn't refused."""
     given = better(len(tables), numbers(question), [numbers(table) for table in tables])
     return told_text(given) if given[0] == 0 else given
+
+
+def compared(in_order, table, other):
+    """What same answers."""
+    return same(in_order, numbers(table), numbers(other))
 
 
 def rows_of(question, *tables):
@@ -636,6 +641,20 @@ def second_run(question, *tables):
     except TooLarge:
         return [9, 6]
     return second_write(columns[-1], rows)
+
+
+def second_same(in_order, table, other):
+    if max(len(table), len(other)) > 65536:
+        return [9, 1]
+    for which, text in enumerate((table, other)):
+        told = second_reader(text)
+        if told[0] == 9:
+            return [9, 2, which, told[2]]
+    # a table has one text, so that rows are the same just if their lines are
+    columns, *rows = table.split("\n")
+    others, *other_rows = other.split("\n")
+    alike = rows == other_rows if in_order else sorted(rows) == sorted(other_rows)
+    return [0, int(columns == others and alike)]
 
 
 FORMS = "expr either both negated test sum product signed first".split()

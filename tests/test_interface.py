@@ -8,7 +8,7 @@ import sys
 import unittest
 from unittest import mock
 
-from tablesteps.tables import better, judge, read, run
+from tablesteps.tables import better, judge, read, run, same
 from tests.helper import numbers
 
 TEXTS = (
@@ -32,6 +32,7 @@ QUESTIONS = [("", (TABLE, OTHER)), ("distinct", (TABLE, OTHER)), ("x" * 65537, (
 QUESTIONS += [("distinct\n", (TABLE, "a:whole\n02\n")), ("distinct\n" * 41, (TABLE,))]
 QUESTIONS += [(line + "\n", (TABLE, OTHER)) for line in LINES]
 ASKING = (judge, run, better)
+OTHERS = [("a:whole\n1\n2\n", "a:whole\n2\n1\n"), (TABLE, OTHER), ("a:whole\n1\n1\n2\n", "a:whole\n1\n2\n2\n")]
 
 
 class Untouched(list):
@@ -47,6 +48,8 @@ class Untouched(list):
 def calls(kind=list):
     """All calls with fresh lists: the function and its arguments."""
     made = [(read, [kind(numbers(text))]) for text in TEXTS]
+    for text, other in [(text, text) for text in TEXTS] + [("a:whole\n1\n2\n", text) for text in TEXTS[:9]] + OTHERS:
+        made += [(same, [in_order, kind(numbers(text)), kind(numbers(other))]) for in_order in (0, 1)]
     for function in ASKING:
         for question, tables in QUESTIONS:
             texts = kind([kind(numbers(table)) for table in tables])
@@ -62,6 +65,9 @@ class Interface(unittest.TestCase):
     def test_the_arguments(self):
         self.assertEqual(list(inspect.signature(read).parameters), ["text"])
         self.assertEqual(read(text=numbers("a:whole\n7\n")), [0, 1])
+        self.assertEqual(list(inspect.signature(same).parameters), ["in_order", "table", "other"])
+        self.assertEqual(same(in_order=1, table=numbers("a:whole\n7\n"), other=numbers("a:whole\n7\n")), [0, 1])
+        self.assertEqual(same(0, other=numbers("a:whole\n7"), table=numbers("a:whole\n7\n")), [9, 2, 1, 1])
         for function in ASKING:
             self.assertEqual(list(inspect.signature(function).parameters), ["n", "question", "tables"])
             given = function(n=1, question=[], tables=[numbers("a:whole\n")])
@@ -92,7 +98,7 @@ class Interface(unittest.TestCase):
                 self.assertIn((given[1], len(given)), ((1, 2), (2, 3 if function is read else 4), (3, 4), (6, 2)))
             else:
                 self.assertEqual(given[0], 0)
-                self.assertEqual(len(given), 2 if function is read else given[1] + 2)
+                self.assertEqual(len(given), 2 if function in (read, same) else given[1] + 2)
 
     def test_the_lists_are_the_same_afterwards(self):
         made = calls()
@@ -111,7 +117,7 @@ class Interface(unittest.TestCase):
     def test_nothing_is_kept_between_calls(self):
         alone = answers(calls())
         for (function, arguments), told in zip(calls(), alone):
-            for other, others in calls()[::3]:
+            for other, others in calls()[::13]:
                 other(*others).append(5)
                 self.assertEqual(function(*arguments), told)
 

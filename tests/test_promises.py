@@ -4,9 +4,11 @@ import unittest
 from fractions import Fraction
 
 from tablesteps.tables import read
-from tests.helper import BETTER_WORDS, Draw, bettered, judged, numbers, question_of, ran, rows_of, second_fits, second_step, write
+from tests.helper import BETTER_WORDS, Draw, bettered, compared, judged, numbers, question_of, ran, rows_of, second_fits, second_run, second_step
+from tests.helper import write
 
 ROUNDS = 400
+SAME = [0, 1]
 
 
 def drawn_table(seed, most=12):
@@ -33,6 +35,18 @@ class Written(unittest.TestCase):
             text = write(columns, rows)
             self.assertEqual(ran("", text), text)
             self.assertEqual(ran("where true\n", text), text)
+
+    def test_one_text_each(self):
+        """Two texts are the same table in the same order just if they are one text."""
+        for seed in range(ROUNDS):
+            draw, columns, rows = drawn_table(seed, 6)
+            text = write(columns, rows)
+            place = draw.random.randrange(len(text))
+            changed = text[:place] + draw.one(*'01/-," \nxft') + text[place + 1:]
+            told = compared(1, text, changed)
+            self.assertEqual(told[0] == 9, read(numbers(changed))[0] == 9, changed)
+            self.assertEqual(told == SAME, changed == text, changed)
+            self.assertEqual(compared(1, text, ran("", text)), SAME)
 
     def test_all_bytes_of_texts(self):
         text = write([("a", "text")], [[(byte,)] for byte in [10, *range(32, 127)]] + [[tuple(range(32, 127))], [()], [None]])
@@ -142,6 +156,7 @@ class Orders(unittest.TestCase):
             text = write(columns, rows)
             told = rows_of(f"order {keys}\n", text)
             self.assertEqual(sorted(told), sorted(text.split("\n")[1:-1]))
+            self.assertEqual(compared(0, text, ran(f"order {keys}\n", text)), SAME)
             self.assertEqual(rows_of(f"order {keys}\norder {keys}\n", text), told)
             numbered = rows_of(f"window: number as stood\norder {keys}\nwindow by {keys}: rank as ranked\n", text)
             last = (0, 0)
@@ -167,7 +182,7 @@ class Orders(unittest.TestCase):
             told = ", ".join(f"{draw.one('number', 'rank', 'before ' + columns[0][0])} as told{k}" for k in range(draw.one(1, 2, 3)))
             text = write(columns, rows)
             names = ", ".join(name for name, _ in columns)
-            self.assertEqual(ran(f"window {draw.names(columns, 0)}{by}: {told}\nkeep {names}\n", text), text)
+            self.assertEqual(compared(1, text, ran(f"window {draw.names(columns, 0)}{by}: {told}\nkeep {names}\n", text)), SAME)
 
     def test_numbers_in_a_window_are_all_from_1(self):
         for seed in range(ROUNDS):
@@ -188,6 +203,40 @@ class Orders(unittest.TestCase):
                     keys, names = draw.keys(columns), draw.names(columns, 1)
                     told = rows_of(f"order {keys}\nwindow {names} by {keys}: sum {name} as so_far\ngroup {names}: last so_far as total\n", text)
                     self.assertEqual(told, rows_of(f"order {keys}\ngroup {names}: sum {name} as total\n", text))
+
+
+class OneSentence(unittest.TestCase):
+    def test_what_the_steps_say_and_a_better_question_the_same(self):
+        """All calls together, over questions of all kinds of steps, with values near the limits and far from them."""
+        for seed in range(ROUNDS):
+            draw = Draw(seed + 5000, large=seed % 4 == 0, sure=seed % 100)
+            tables = draw.tables(8)
+            texts = [write(*table) for table in tables]
+            lines, columns = draw.right_lines([columns for columns, _ in tables], 8)
+            question = question_of(lines)
+            told = ran(question, *texts)
+            further = bettered(question, *texts)
+            self.assertEqual([read(numbers(text)) for text in texts], [[0, len(rows)] for _, rows in tables])
+            self.assertEqual(judged(question, *texts), write(columns, [])[:-1])
+            self.assertEqual(judged(further, *texts), write(columns, [])[:-1])
+            self.assertEqual(told, second_run(question, *texts), question)
+            if isinstance(told, str):
+                self.assertEqual(compared(1, told, ran(further, *texts)), SAME, question)
+                self.assertEqual(second_run(further, *texts), told, question)
+
+    def test_of_all_tables(self):
+        """One question and its better one, asked of many tables with the same columns."""
+        for seed in range(60):
+            draw = Draw(seed, sure=80, words=BETTER_WORDS)
+            others = [columns for columns, _ in draw.tables()]
+            question = question_of(draw.right_lines(others, 9)[0])
+            further = bettered(question, *[write(columns, []) for columns in others])
+            for _ in range(6):
+                texts = [write(columns, draw.rows(columns, 9)) for columns in others]
+                self.assertEqual(bettered(question, *texts), further)
+                told = ran(question, *texts)
+                if isinstance(told, str):
+                    self.assertEqual(compared(1, told, ran(further, *texts)), SAME, (question, texts))
 
 
 if __name__ == "__main__":
