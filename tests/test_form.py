@@ -2,6 +2,7 @@
 
 import ast
 import builtins
+import functools
 import pathlib
 import re
 import unittest
@@ -33,6 +34,7 @@ NODES = (
 )
 
 
+@functools.cache
 def trees():
     return [(path, ast.parse(path.read_text("utf-8"))) for path in FILES]
 
@@ -41,6 +43,7 @@ def found(kind):
     return [(path, node) for path, tree in trees() for node in ast.walk(tree) if isinstance(node, kind)]
 
 
+@functools.cache
 def defined_methods():
     return {part.name for _, node in found(ast.ClassDef) for part in node.body if isinstance(part, ast.FunctionDef)}
 
